@@ -1,0 +1,1 @@
+"""Coinjudge: is giving the greatest coin first ever wrong?"""
