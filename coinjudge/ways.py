@@ -23,12 +23,17 @@ def pieces(way):
     return sum(way)
 
 
-def first_way(coins, amount):
-    """Give back the way in which the shop gives the amount."""
+def check_amount(amount):
+    """Refuse an amount that is not from nought to 10 ** 80."""
     # The message does not show the amount: Python refuses to write numbers
     # of some thousand digits, and that refusal would hide NoAmount.
     if amount < 0 or amount > MOST_AMOUNT:
         raise NoAmount("an amount is from nought to 10 ** 80")
+
+
+def first_way(coins, amount):
+    """Give back the way in which the shop gives the amount."""
+    check_amount(amount)
     way = [0] * len(coins)
     due = amount
     for at in range(len(coins) - 1, -1, -1):
